@@ -1,0 +1,1 @@
+"""Pebbling numbers of small graphs."""

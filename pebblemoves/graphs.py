@@ -1,0 +1,72 @@
+"""Graphs told by a vertex count and a list of edge ends: their limits, their distances, their refusals."""
+
+OUTSIDE_LIMITS = -22
+NOT_CONNECTED = -33
+TOO_WIDE = -75
+
+LARGEST_VERTEX_COUNT = 5
+LARGEST_DIAMETER = 3
+
+
+def edge_pairs(edges):
+    """The edges as pairs (u, v), in the order in which they stand."""
+    return [(edges[place], edges[place + 1]) for place in range(0, len(edges) - 1, 2)]
+
+
+def are_edges(vertex_count, edges):
+    """Whether the edges are pairs u < v of vertices, in strictly increasing lexicographic order."""
+    if len(edges) % 2 != 0:
+        return False
+    # (0, 0) is no edge and stands before every pair with u < v.
+    earlier = (0, 0)
+    for pair in edge_pairs(edges):
+        if pair[0] >= pair[1] or pair[1] >= vertex_count or pair <= earlier:
+            return False
+        earlier = pair
+    return True
+
+
+def is_within_limits(vertex_count, edges):
+    """Whether vertex_count and edges are within their limits."""
+    return 1 <= vertex_count and vertex_count <= LARGEST_VERTEX_COUNT and are_edges(vertex_count, edges)
+
+
+def steps_of(edges):
+    """The edges as steps (start, end), each edge in both directions."""
+    pairs = edge_pairs(edges)
+    return pairs + [(v, u) for u, v in pairs]
+
+
+def distances_from(vertex_count, start, edges):
+    """The distance from start to each vertex, None where no path leads."""
+    steps = steps_of(edges)
+    distances = [None] * vertex_count
+    distances[start] = 0
+    for distance in range(1, vertex_count):
+        for near, far in steps:
+            if distances[near] == distance - 1 and distances[far] is None:
+                distances[far] = distance
+    return distances
+
+
+def largest_distance(vertex_count, edges):
+    """The largest distance between two vertices, None if the graph isn't connected."""
+    largest = 0
+    for start in range(vertex_count):
+        for distance in distances_from(vertex_count, start, edges):
+            if distance is None:
+                return None
+            largest = max(largest, distance)
+    return largest
+
+
+def graph_refusal(vertex_count, edges):
+    """The number of the first refusal that applies to the graph, None if there is none."""
+    if not is_within_limits(vertex_count, edges):
+        return OUTSIDE_LIMITS
+    largest = largest_distance(vertex_count, edges)
+    if largest is None:
+        return NOT_CONNECTED
+    if largest > LARGEST_DIAMETER:
+        return TOO_WIDE
+    return None

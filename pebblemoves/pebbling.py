@@ -1,0 +1,64 @@
+"""How many pebbles are enough to reach a vertex by pebbling moves, however they are placed."""
+
+from pebblemoves.graphs import graph_refusal, steps_of
+
+NO_SUCH_TARGET = -2
+
+
+def configurations(vertex_count, pebbles):
+    """Every configuration with this number of pebbles, in lexicographic order."""
+    beginnings = [[]]
+    for length in range(1, vertex_count):
+        longer = []
+        for beginning in beginnings:
+            for placed in range(pebbles - sum(beginning) + 1):
+                longer.append(beginning + [placed])
+        beginnings = longer
+    return [beginning + [pebbles - sum(beginning)] for beginning in beginnings]
+
+
+def after_move(configuration, start, end):
+    """The configuration that a pebbling move from start to end leads to."""
+    moved = list(configuration)
+    moved[start] = moved[start] - 2
+    moved[end] = moved[end] + 1
+    return moved
+
+
+def is_unsolvable(configuration, target, steps, fewer):
+    """Whether the target isn't reachable; fewer holds the unsolvable configurations with one pebble fewer."""
+    if configuration[target] > 0:
+        return False
+    # A move takes one pebble away, so what it leads to is unsolvable just if it is among the fewer.
+    for start, end in steps:
+        if configuration[start] >= 2 and after_move(configuration, start, end) not in fewer:
+            return False
+    return True
+
+
+def unsolvable_with(pebbles, vertex_count, target, steps, fewer):
+    """The unsolvable configurations with this number of pebbles; fewer holds those with one pebble fewer."""
+    placings = configurations(vertex_count, pebbles)
+    return [placing for placing in placings if is_unsolvable(placing, target, steps, fewer)]
+
+
+def pebbles_needed(vertex_count, target, edges):
+    """The pebbling number of a target in a connected graph."""
+    steps = steps_of(edges)
+    # Without pebbles there is one configuration, and it reaches nothing.
+    pebbles = 0
+    unsolvable = [[0] * vertex_count]
+    while len(unsolvable) > 0:
+        pebbles = pebbles + 1
+        unsolvable = unsolvable_with(pebbles, vertex_count, target, steps, unsolvable)
+    return pebbles
+
+
+def pebbling_number(vertex_count, target, edges):
+    """A list of one number: the pebbling number of the target, or the refusal."""
+    refusal = graph_refusal(vertex_count, edges)
+    if refusal is not None:
+        return [refusal]
+    if target >= vertex_count:
+        return [NO_SUCH_TARGET]
+    return [pebbles_needed(vertex_count, target, edges)]
