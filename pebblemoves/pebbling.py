@@ -62,3 +62,11 @@ def pebbling_number(vertex_count, target, edges):
     if target >= vertex_count:
         return [NO_SUCH_TARGET]
     return [pebbles_needed(vertex_count, target, edges)]
+
+
+def graph_pebbling_number(vertex_count, edges):
+    """A list of one number: the pebbling number of the graph, or the refusal."""
+    refusal = graph_refusal(vertex_count, edges)
+    if refusal is not None:
+        return [refusal]
+    return [max([pebbles_needed(vertex_count, target, edges) for target in range(vertex_count)])]
