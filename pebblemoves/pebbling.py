@@ -1,8 +1,10 @@
 """How many pebbles are enough to reach a vertex by pebbling moves, however they are placed."""
 
-from pebblemoves.graphs import graph_refusal, steps_of
+from pebblemoves.graphs import OUTSIDE_LIMITS, graph_refusal, steps_of
 
 NO_SUCH_TARGET = -2
+
+MOST_PEBBLES = 10
 
 
 def configurations(vertex_count, pebbles):
@@ -36,6 +38,11 @@ def is_unsolvable(configuration, target, steps, fewer):
     return True
 
 
+def unsolvable_without_pebbles(vertex_count):
+    """The unsolvable configurations without pebbles: the one that there is, for it reaches nothing."""
+    return configurations(vertex_count, 0)
+
+
 def unsolvable_with(pebbles, vertex_count, target, steps, fewer):
     """The unsolvable configurations with this number of pebbles; fewer holds those with one pebble fewer."""
     placings = configurations(vertex_count, pebbles)
@@ -45,22 +52,44 @@ def unsolvable_with(pebbles, vertex_count, target, steps, fewer):
 def pebbles_needed(vertex_count, target, edges):
     """The pebbling number of a target in a connected graph."""
     steps = steps_of(edges)
-    # Without pebbles there is one configuration, and it reaches nothing.
     pebbles = 0
-    unsolvable = [[0] * vertex_count]
+    unsolvable = unsolvable_without_pebbles(vertex_count)
     while len(unsolvable) > 0:
         pebbles = pebbles + 1
         unsolvable = unsolvable_with(pebbles, vertex_count, target, steps, unsolvable)
     return pebbles
 
 
+def all_unsolvable(vertex_count, target, pebbles, edges):
+    """The unsolvable configurations with this number of pebbles, in lexicographic order."""
+    steps = steps_of(edges)
+    unsolvable = unsolvable_without_pebbles(vertex_count)
+    for placed in range(1, pebbles + 1):
+        unsolvable = unsolvable_with(placed, vertex_count, target, steps, unsolvable)
+    return unsolvable
+
+
+def target_refusal(vertex_count, target, edges):
+    """The number of the first refusal that applies to the graph or the target, None if there is none."""
+    refusal = graph_refusal(vertex_count, edges)
+    if refusal is None and target >= vertex_count:
+        return NO_SUCH_TARGET
+    return refusal
+
+
+def placing_refusal(vertex_count, target, pebbles, edges):
+    """The number of the first refusal that applies to the graph, the target or the pebbles, None if there is none."""
+    refusal = target_refusal(vertex_count, target, edges)
+    if refusal is None and pebbles > MOST_PEBBLES:
+        return OUTSIDE_LIMITS
+    return refusal
+
+
 def pebbling_number(vertex_count, target, edges):
     """A list of one number: the pebbling number of the target, or the refusal."""
-    refusal = graph_refusal(vertex_count, edges)
+    refusal = target_refusal(vertex_count, target, edges)
     if refusal is not None:
         return [refusal]
-    if target >= vertex_count:
-        return [NO_SUCH_TARGET]
     return [pebbles_needed(vertex_count, target, edges)]
 
 
@@ -70,3 +99,11 @@ def graph_pebbling_number(vertex_count, edges):
     if refusal is not None:
         return [refusal]
     return [max([pebbles_needed(vertex_count, target, edges) for target in range(vertex_count)])]
+
+
+def count_unsolvable(vertex_count, target, pebbles, edges):
+    """A list of one number: how many configurations with so many pebbles are unsolvable, or the refusal."""
+    refusal = placing_refusal(vertex_count, target, pebbles, edges)
+    if refusal is not None:
+        return [refusal]
+    return [len(all_unsolvable(vertex_count, target, pebbles, edges))]

@@ -1,9 +1,10 @@
 """What the tests share: graphs, refused graphs, and the words of the document done step by step."""
 
 from functools import lru_cache
-from itertools import combinations, combinations_with_replacement
+from itertools import combinations, combinations_with_replacement, permutations
 
 LARGEST_HANDED_IN = 4294967295
+MOST_PEBBLES = 10
 OUTSIDE_LIMITS = -22
 NOT_CONNECTED = -33
 TOO_WIDE = -75
@@ -167,14 +168,44 @@ def reaches(configuration, target, edges):
     return False
 
 
+def placings(vertex_count, pebbles):
+    """Every configuration with this number of pebbles, in no order that matters."""
+    for placing in combinations_with_replacement(range(vertex_count), pebbles):
+        yield tuple(placing.count(vertex) for vertex in range(vertex_count))
+
+
 @lru_cache(maxsize=None)
 def every_configuration_reaches(vertex_count, target, pebbles, edges):
     """Whether the target is reachable however the pebbles are placed; edges is a tuple here."""
-    for placing in combinations_with_replacement(range(vertex_count), pebbles):
-        configuration = [placing.count(vertex) for vertex in range(vertex_count)]
-        if not reaches(configuration, target, edges):
-            return False
-    return True
+    return all(reaches(configuration, target, edges) for configuration in placings(vertex_count, pebbles))
+
+
+@lru_cache(maxsize=None)
+def plainest_renaming(vertex_count, edges):
+    """The new names of the vertices with which the edges come first, and those edges; edges is a tuple here."""
+    renamings = []
+    for names in permutations(range(vertex_count)):
+        pairs = sorted(tuple(sorted((names[u], names[v]))) for u, v in pairs_of(edges))
+        renamings.append((tuple(flat(pairs)), names))
+    renamed, names = min(renamings)
+    return names, renamed
+
+
+@lru_cache(maxsize=None)
+def searched_unsolvable(vertex_count, target, pebbles, edges):
+    """The configurations from which a plain search doesn't reach the target; edges is a tuple here."""
+    return [
+        configuration for configuration in placings(vertex_count, pebbles)
+        if not reaches(configuration, target, edges)
+    ]
+
+
+def unsolvable_by_terms(vertex_count, target, pebbles, edges):
+    """The sorted unsolvable configurations, as lists; edges is a tuple here."""
+    # Other names for the vertices change nothing but the names, so one graph of each shape is searched.
+    names, renamed = plainest_renaming(vertex_count, edges)
+    found = searched_unsolvable(vertex_count, names[target], pebbles, renamed)
+    return sorted([configuration[name] for name in names] for configuration in found)
 
 
 def number_by_terms(vertex_count, target, edges):
@@ -191,3 +222,26 @@ def with_one_more_edge(vertex_count, edges):
     for pair in combinations(range(vertex_count), 2):
         if pair not in pairs:
             yield flat(sorted(pairs + [pair]))
+
+
+class NothingIsKept:
+    """For a test class that names the function as answer, and its calls, each with the edges last."""
+
+    def test_what_is_handed_in_stays_as_it_was(self):
+        for call in self.calls:
+            with self.subTest(call=call):
+                edges = UnchangeableList(call[-1])
+                self.answer(*call[:-1], edges)
+                self.assertEqual(list(edges), call[-1])
+
+    def test_the_same_call_twice_answers_the_same(self):
+        first = [self.answer(*call) for call in self.calls]
+        self.assertEqual([self.answer(*call) for call in self.calls], first)
+
+    def test_an_answer_is_a_new_list_each_time(self):
+        for call in self.calls:
+            with self.subTest(call=call):
+                first = self.answer(*call)
+                expected = list(first)
+                first.append(0)
+                self.assertEqual(self.answer(*call), expected)
