@@ -3,6 +3,7 @@
 from pebblemoves.graphs import OUTSIDE_LIMITS, graph_refusal, steps_of
 
 NO_SUCH_TARGET = -2
+NO_SUCH_INDEX = -33
 
 MOST_PEBBLES = 10
 
@@ -107,3 +108,14 @@ def count_unsolvable(vertex_count, target, pebbles, edges):
     if refusal is not None:
         return [refusal]
     return [len(all_unsolvable(vertex_count, target, pebbles, edges))]
+
+
+def unsolvable_configuration(vertex_count, target, pebbles, index, edges):
+    """A list of vertex_count and the pebbles on each vertex in the unsolvable configuration, or of the refusal."""
+    refusal = placing_refusal(vertex_count, target, pebbles, edges)
+    if refusal is not None:
+        return [refusal]
+    unsolvable = all_unsolvable(vertex_count, target, pebbles, edges)
+    if index >= len(unsolvable):
+        return [NO_SUCH_INDEX]
+    return [vertex_count] + unsolvable[index]

@@ -9,6 +9,7 @@ OUTSIDE_LIMITS = -22
 NOT_CONNECTED = -33
 TOO_WIDE = -75
 NO_SUCH_TARGET = -2
+NO_SUCH_INDEX = -33
 
 PATH_OF_FOUR = [0, 1, 1, 2, 2, 3]
 PATH_OF_FIVE = [0, 1, 1, 2, 2, 3, 3, 4]
@@ -175,12 +176,6 @@ def placings(vertex_count, pebbles):
 
 
 @lru_cache(maxsize=None)
-def every_configuration_reaches(vertex_count, target, pebbles, edges):
-    """Whether the target is reachable however the pebbles are placed; edges is a tuple here."""
-    return all(reaches(configuration, target, edges) for configuration in placings(vertex_count, pebbles))
-
-
-@lru_cache(maxsize=None)
 def plainest_renaming(vertex_count, edges):
     """The new names of the vertices with which the edges come first, and those edges; edges is a tuple here."""
     renamings = []
@@ -206,6 +201,11 @@ def unsolvable_by_terms(vertex_count, target, pebbles, edges):
     names, renamed = plainest_renaming(vertex_count, edges)
     found = searched_unsolvable(vertex_count, names[target], pebbles, renamed)
     return sorted([configuration[name] for name in names] for configuration in found)
+
+
+def every_configuration_reaches(vertex_count, target, pebbles, edges):
+    """Whether the target is reachable however the pebbles are placed; edges is a tuple here."""
+    return unsolvable_by_terms(vertex_count, target, pebbles, edges) == []
 
 
 def number_by_terms(vertex_count, target, edges):
