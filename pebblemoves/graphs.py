@@ -1,4 +1,4 @@
-"""Graphs told by a vertex count and a list of edge ends: their limits, their distances, their refusals."""
+"""Graphs told by a vertex count and a list of edge ends: their limits, their distances, their refusals, their paths."""
 
 OUTSIDE_LIMITS = -22
 NOT_CONNECTED = -33
@@ -37,11 +37,12 @@ def steps_of(edges):
     return pairs + [(v, u) for u, v in pairs]
 
 
-def distances_from(vertex_count, start, edges):
-    """The distance from start to each vertex, None where no path leads."""
+def distances_from(vertex_count, starts, edges):
+    """The distance to each vertex from the nearest of the starts, None where no path leads."""
     steps = steps_of(edges)
     distances = [None] * vertex_count
-    distances[start] = 0
+    for start in starts:
+        distances[start] = 0
     for distance in range(1, vertex_count):
         for near, far in steps:
             if distances[near] == distance - 1 and distances[far] is None:
@@ -53,7 +54,7 @@ def largest_distance(vertex_count, edges):
     """The largest distance between two vertices, None if the graph isn't connected."""
     largest = 0
     for start in range(vertex_count):
-        for distance in distances_from(vertex_count, start, edges):
+        for distance in distances_from(vertex_count, [start], edges):
             if distance is None:
                 return None
             largest = max(largest, distance)
@@ -70,3 +71,37 @@ def graph_refusal(vertex_count, edges):
     if largest > LARGEST_DIAMETER:
         return TOO_WIDE
     return None
+
+
+def is_tree(vertex_count, edges):
+    """Whether a connected graph is a tree."""
+    return len(edges) == 2 * (vertex_count - 1)
+
+
+def nearer_neighbour(vertex, distances, steps):
+    """The vertex adjacent to this one that has a smaller distance."""
+    return [end for start, end in steps if start == vertex and distances[end] < distances[vertex]][0]
+
+
+def path_to_nearest(vertex, distances, steps):
+    """The path from this vertex to the nearest with distance 0, in a tree, without the latter."""
+    path = []
+    here = vertex
+    while distances[here] > 0:
+        path.append(here)
+        here = nearer_neighbour(here, distances, steps)
+    return path
+
+
+def path_lengths(vertex_count, target, edges):
+    """The length of each path of a tree's path partition from the target, in the order in which they are chosen."""
+    steps = steps_of(edges)
+    visited = [target]
+    lengths = []
+    while len(visited) < vertex_count:
+        distances = distances_from(vertex_count, visited, edges)
+        length = max(distances)
+        # index finds the first, which is the lowest in case of a tie.
+        visited = visited + path_to_nearest(distances.index(length), distances, steps)
+        lengths.append(length)
+    return lengths

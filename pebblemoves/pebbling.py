@@ -1,9 +1,10 @@
 """How many pebbles are enough to reach a vertex by pebbling moves, however they are placed."""
 
-from pebblemoves.graphs import OUTSIDE_LIMITS, graph_refusal, steps_of
+from pebblemoves.graphs import OUTSIDE_LIMITS, graph_refusal, is_tree, path_lengths, steps_of
 
 NO_SUCH_TARGET = -2
 NO_SUCH_INDEX = -33
+NOT_A_TREE = -33
 
 MOST_PEBBLES = 10
 
@@ -70,6 +71,19 @@ def all_unsolvable(vertex_count, target, pebbles, edges):
     return unsolvable
 
 
+def power_of_two(exponent):
+    """2 to the power of the exponent."""
+    power = 1
+    for doubling in range(exponent):
+        power = power * 2
+    return power
+
+
+def pebbles_by_formula(lengths):
+    """The number of pebbles that the formula for trees gives for the lengths of a path partition."""
+    return 1 + sum([power_of_two(length) - 1 for length in lengths])
+
+
 def target_refusal(vertex_count, target, edges):
     """The number of the first refusal that applies to the graph or the target, None if there is none."""
     refusal = graph_refusal(vertex_count, edges)
@@ -83,6 +97,14 @@ def placing_refusal(vertex_count, target, pebbles, edges):
     refusal = target_refusal(vertex_count, target, edges)
     if refusal is None and pebbles > MOST_PEBBLES:
         return OUTSIDE_LIMITS
+    return refusal
+
+
+def tree_refusal(vertex_count, target, edges):
+    """The number of the first refusal that applies to the graph as a tree or the target, None if there is none."""
+    refusal = target_refusal(vertex_count, target, edges)
+    if refusal is None and not is_tree(vertex_count, edges):
+        return NOT_A_TREE
     return refusal
 
 
@@ -119,3 +141,12 @@ def unsolvable_configuration(vertex_count, target, pebbles, index, edges):
     if index >= len(unsolvable):
         return [NO_SUCH_INDEX]
     return [vertex_count] + unsolvable[index]
+
+
+def path_partition(vertex_count, target, edges):
+    """A list of the pebbles by the formula for trees and the length of each path, or of the refusal."""
+    refusal = tree_refusal(vertex_count, target, edges)
+    if refusal is not None:
+        return [refusal]
+    lengths = path_lengths(vertex_count, target, edges)
+    return [pebbles_by_formula(lengths)] + lengths

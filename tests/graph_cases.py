@@ -10,6 +10,7 @@ NOT_CONNECTED = -33
 TOO_WIDE = -75
 NO_SUCH_TARGET = -2
 NO_SUCH_INDEX = -33
+NOT_A_TREE = -33
 
 PATH_OF_FOUR = [0, 1, 1, 2, 2, 3]
 PATH_OF_FIVE = [0, 1, 1, 2, 2, 3, 3, 4]
@@ -147,6 +148,11 @@ def refusal_of(vertex_count, edges):
 def accepted_graphs():
     """Every connected graph of 1 to 5 vertices with a diameter of at most 3."""
     return [graph for graph in all_graphs() if refusal_of(*graph) is None]
+
+
+def is_tree_by_terms(vertex_count, edges):
+    """Whether a connected graph has one edge fewer than vertices."""
+    return len(pairs_of(edges)) == vertex_count - 1
 
 
 def reaches(configuration, target, edges):
