@@ -61,16 +61,21 @@ def largest_distance(vertex_count, edges):
     return largest
 
 
-def graph_refusal(vertex_count, edges):
-    """The number of the first refusal that applies to the graph, None if there is none."""
+def connection_refusal(vertex_count, edges):
+    """The number of the first refusal that applies to a graph of any diameter, None if there is none."""
     if not is_within_limits(vertex_count, edges):
         return OUTSIDE_LIMITS
-    largest = largest_distance(vertex_count, edges)
-    if largest is None:
+    if largest_distance(vertex_count, edges) is None:
         return NOT_CONNECTED
-    if largest > LARGEST_DIAMETER:
-        return TOO_WIDE
     return None
+
+
+def graph_refusal(vertex_count, edges):
+    """The number of the first refusal that applies to the graph, None if there is none."""
+    refusal = connection_refusal(vertex_count, edges)
+    if refusal is None and largest_distance(vertex_count, edges) > LARGEST_DIAMETER:
+        return TOO_WIDE
+    return refusal
 
 
 def is_tree(vertex_count, edges):

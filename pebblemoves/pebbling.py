@@ -1,6 +1,7 @@
 """How many pebbles are enough to reach a vertex by pebbling moves, however they are placed."""
 
-from pebblemoves.graphs import OUTSIDE_LIMITS, graph_refusal, is_tree, path_lengths, steps_of
+from pebblemoves.graphs import OUTSIDE_LIMITS, connection_refusal, graph_refusal, is_tree, largest_distance
+from pebblemoves.graphs import path_lengths, steps_of
 
 NO_SUCH_TARGET = -2
 NO_SUCH_INDEX = -33
@@ -150,3 +151,11 @@ def path_partition(vertex_count, target, edges):
         return [refusal]
     lengths = path_lengths(vertex_count, target, edges)
     return [pebbles_by_formula(lengths)] + lengths
+
+
+def diameter(vertex_count, edges):
+    """A list of one number: the diameter of the graph, however large it is, or the refusal."""
+    refusal = connection_refusal(vertex_count, edges)
+    if refusal is not None:
+        return [refusal]
+    return [largest_distance(vertex_count, edges)]
